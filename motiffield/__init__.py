@@ -1,0 +1,1 @@
+"""Motiffield: patterns without end by motifs and shifts, in one least form."""
