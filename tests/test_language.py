@@ -50,6 +50,24 @@ def nodes():
     return [(path.name, node) for path in files() for node in ast.walk(ast.parse(path.read_text("ascii")))]
 
 
+def trees():
+    return {f"motiffield.{path.stem}": ast.parse(path.read_text("ascii")) for path in files()}
+
+
+def bound_at_the_top(tree):
+    """The names that a file itself gives a meaning at its top."""
+    defs = [node.name for node in tree.body if isinstance(node, (ast.FunctionDef, ast.ClassDef))]
+    return defs + [target.id for node in tree.body if isinstance(node, ast.Assign) for target in node.targets]
+
+
+def imported(tree):
+    return [alias.name for node in tree.body if isinstance(node, ast.ImportFrom) for alias in node.names]
+
+
+def drawn_from(tree):
+    return {node.module for node in ast.walk(tree) if isinstance(node, ast.ImportFrom)}
+
+
 def bound_or_read(node):
     """The names, but for attributes, that a node itself speaks of."""
     if isinstance(node, ast.Name):
@@ -114,6 +132,43 @@ class Language(unittest.TestCase):
                 self.assertEqual(node.level, 0, place)
                 self.assertTrue(node.module == "__future__" or node.module.startswith("motiffield."), place)
                 self.assertNotIn("*", [alias.name for alias in node.names], place)
+
+    def test_each_import_is_from_the_file_that_defines_the_name(self):
+        for place, node in nodes():
+            if isinstance(node, ast.ImportFrom) and node.module != "__future__":
+                for alias in node.names:
+                    said = f"{place}: {node.module}.{alias.name}"
+                    self.assertIn(alias.name, bound_at_the_top(trees()[node.module]), said)
+                    self.assertIsNone(alias.asname, said)
+
+    def test_no_two_files_draw_from_one_another(self):
+        left = {module: drawn_from(tree) for module, tree in trees().items()}
+        while left:
+            free = [module for module in left if not left[module] & set(left)]
+            self.assertTrue(free, f"these draw from one another: {sorted(left)}")
+            for module in free:
+                del left[module]
+
+    def test_a_name_is_bound_once_at_the_top_and_not_again_within(self):
+        for module, tree in trees().items():
+            top = bound_at_the_top(tree) + imported(tree)
+            self.assertEqual(len(top), len(set(top)), module)
+            taken = set(imported(tree)) | {node.name for node in tree.body if isinstance(node, ast.ClassDef)}
+            for node in ast.walk(tree):
+                if isinstance(node, ast.arg) or isinstance(node, ast.Name) and isinstance(node.ctx, ast.Store):
+                    self.assertNotIn(bound_or_read(node)[0], taken, module)
+
+    def test_no_name_is_a_method_here_and_a_value_there(self):
+        methods = set()
+        values = set()
+        for place, node in nodes():
+            if isinstance(node, ast.ClassDef):
+                own = [part.name for part in node.body if isinstance(part, ast.FunctionDef)]
+                self.assertEqual(len(own), len(set(own)), f"{place}: {node.name}")
+                methods.update(own)
+            if isinstance(node, ast.Attribute) and isinstance(node.ctx, ast.Store):
+                values.add(node.attr)
+        self.assertEqual(methods & values, set())
 
     def test_names(self):
         python = set(dir(builtins))

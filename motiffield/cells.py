@@ -1,0 +1,22 @@
+"""The cells of a pattern, however far."""
+
+from motiffield.errors import TooFar
+from motiffield.forms import SIGNS
+from motiffield.sizes import FAR
+
+
+def refuse_far(x, y):
+    """Refuses a cell that is too far."""
+    if max(abs(x), abs(y)) > FAR:
+        raise TooFar("the cell is too far")
+
+
+def cell_at(pattern, x, y):
+    """What the cell (x, y) shows: a hue from 1 to 6, or 0 for a gap."""
+    refuse_far(x, y)
+    return pattern.form.shows(x, y)
+
+
+def row_from(pattern, x, y, many):
+    """The signs of so many cells from (x, y) on rightwards, as one text."""
+    return "".join([SIGNS[cell_at(pattern, x + step, y)] for step in range(many)])
