@@ -2,6 +2,7 @@
 
 from motiffield.errors import TooFar
 from motiffield.forms import SIGNS
+from motiffield.shifts import home
 from motiffield.sizes import FAR
 
 
@@ -20,3 +21,16 @@ def cell_at(pattern, x, y):
 def row_from(pattern, x, y, many):
     """The signs of so many cells from (x, y) on rightwards, as one text."""
     return "".join([SIGNS[cell_at(pattern, x + step, y)] for step in range(many)])
+
+
+def field_rows(pattern):
+    """The rows of the field of the text's family, from above, as texts."""
+    return [row_from(pattern, 0, y, pattern.shifts[0]) for y in range(pattern.shifts[1])]
+
+
+def round_row(family, rows, x, y):
+    """As many signs as the family is wide, from (x, y) on rightwards, by the rows of its field."""
+    # Brought home first: the row may go on beyond what is too far.
+    cell = home(family, x, y)
+    row = rows[cell[1]]
+    return row[cell[0]:] + row[:cell[0]]

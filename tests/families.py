@@ -1,5 +1,7 @@
 """What the tests of shifts share: families to try, and plain ways to check them."""
 
+MOST = 720
+
 
 def families_of(cells):
     """Every family with just so many cells."""
@@ -56,3 +58,22 @@ def in_family(family, x, y):
     """What `among` must tell, by the meaning of the tuple alone."""
     first, second = basis(family)
     return is_sum((x, y), first, second)
+
+
+def brought_home(family, x, y):
+    """The cell of the field that a shift brings a cell to: first by whole slanting shifts, then by level ones."""
+    width, height, slant = family
+    slanting = y // height
+    return (x - slanting * slant) % width, y - slanting * height
+
+
+def family_where(has):
+    """The family of the shifts of which has(x, y) is true, or None where it has more cells than a field may have."""
+    for width in range(1, MOST + 1):
+        if has(width, 0):
+            for height in range(1, MOST // width + 1):
+                for slant in range(width):
+                    if has(slant, height):
+                        return (width, height, slant)
+            return None
+    return None

@@ -6,7 +6,7 @@ import unittest
 from motiffield.cells import cell_at, row_from
 from motiffield.errors import TooFar
 from motiffield.reader import read
-from texts import SIGNS, drawn, family_of, is_flat, motif, motifs, refusal, shown, written
+from texts import SIGNS, good_trees, motif, motifs, refusal, shown, written
 
 FAR = 10 ** 12
 NEAR = [(x, y) for y in range(-5, 6) for x in range(-5, 6)]
@@ -28,16 +28,6 @@ TREES = [
     ("turn", ("shift", 2, -1, ("mirror", motif("12./.34", (5, 1), (2, 4))))),
     ("shift", 12, -12, ("turn", ("over", motif("1../.2.", (4, 1), (-1, 4)), ("turn", motif("3", (3, 0), (1, 1)))))),
 ]
-
-
-def good_trees(chance, deep, reach, side, many):
-    """So many drawn trees that are not refused."""
-    found = []
-    while len(found) < many:
-        tree = drawn(chance, deep, reach, side)
-        if not any(is_flat(part) for part in motifs(tree)) and family_of(tree) is not None:
-            found.append(tree)
-    return found
 
 
 def picture(text, width, height):

@@ -4,11 +4,10 @@ A tree is a text told as tuples: ("motif", rows, first, second), ("over", upper,
 ("mirror", tree), ("turn", tree), ("hue", old, new, tree). No part of the package is used here but its errors.
 """
 
-from families import is_sum
+from families import family_where, is_sum
 from motiffield.errors import MotifError
 
 SIGNS = ".123456"
-MOST = 720
 ALL_SIGNS = [chr(number) for number in range(ord(" "), ord("~") + 1)]
 
 
@@ -88,14 +87,7 @@ def has_shift(tree, x, y):
 
 def family_of(tree):
     """The tree's family, or None where it has more cells than a field may have."""
-    for width in range(1, MOST + 1):
-        if has_shift(tree, width, 0):
-            for height in range(1, MOST // width + 1):
-                for slant in range(width):
-                    if has_shift(tree, slant, height):
-                        return (width, height, slant)
-            return None
-    return None
+    return family_where(lambda x, y: has_shift(tree, x, y))
 
 
 # Good texts and their beginnings (points 7 and 9). A stack is what has still to come, the next thing first: a text of
@@ -183,6 +175,16 @@ def drawn(chance, deep, reach, side=8):
     if kind == "hue":
         return ("hue", chance.randint(1, 6), chance.randint(1, 6), inner)
     return (kind, inner)
+
+
+def good_trees(chance, deep, reach, side, many):
+    """So many drawn trees that are not refused."""
+    found = []
+    while len(found) < many:
+        tree = drawn(chance, deep, reach, side)
+        if not any(is_flat(part) for part in motifs(tree)) and family_of(tree) is not None:
+            found.append(tree)
+    return found
 
 
 def refusal(call, *handed):
